@@ -65,6 +65,15 @@ func (r *reader) want(text string) {
 	}
 }
 
+// first goes beyond the next word, which has to be one of two, and tells whether it is the first.
+func (r *reader) first(text, other string) bool {
+	if r.skip(text) {
+		return true
+	}
+	r.want(other)
+	return false
+}
+
 // fresh reads a fresh name.
 func (r *reader) fresh() string {
 	if !r.seesFresh() {

@@ -175,7 +175,7 @@ func TestErrorsInOnePlace(t *testing.T) {
 	checkRefused(t, "an interface of itself by its super", p, api.ErrForm)
 }
 
-// Every program of three, each a class or an interface, of any super and any Ifaces.
+// Every program of A, B and C, each a class or an interface, of any super among these, none and nobody, of any set of these as Ifaces. Check is asked of all of them, the other calls of each that is taken and of some that are refused.
 func TestAllSmallPrograms(t *testing.T) {
 	names := []string{"A", "B", "C"}
 	var heads []api.Class

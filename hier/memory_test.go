@@ -153,7 +153,7 @@ func TestWritingIntoAnswers(t *testing.T) {
 	checkTaken(t, "nothing", api.Program{})
 }
 
-// An empty list keeps no hold of the memory behind it.
+// An empty list is answered without room, whatever room was behind it.
 func TestEmptyListsAreTheSameAsNone(t *testing.T) {
 	empty := api.Class{Name: "A", Ifaces: []string{}, Fields: []api.Field{}, Methods: []api.Method{{Name: "f", Params: []api.Type{}, Ret: api.Type{Kind: api.Void}, Code: []api.Instr{}, Catches: []api.Catch{}}}}
 	p := api.Program{Classes: []api.Class{empty, {Name: "B", Super: "A", Ifaces: make([]string, 0, 4)}}}

@@ -27,7 +27,7 @@ func (m *maker) one(l ...string) string { return l[m.IntN(len(l))] }
 
 func (m *maker) coin() bool { return m.IntN(2) == 0 }
 
-// frame is a program without bodies; a body of just leave stands for one that is to be made.
+// bodiless is a program in which a body of just leave stands for one that is to be made.
 const bodiless = `
 class T { static s : int ; static k : Kid ;
 	function t0 ( int , Base ) int locals 5 { leave ; } function t1 ( Kid , int [ ] ) Base locals 5 { leave ; } function t2 ( Base , Base [ ] , int ) int locals 6 { leave ; } function t3 ( Object , Has ) void locals 5 { leave ; } }
